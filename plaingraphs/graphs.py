@@ -31,6 +31,32 @@ def pf_cliques(g):
     return answer(len(cliques), cliques, tree_ways(cliques))
 
 
+def pf_greatest(g):
+    """A largest clique, a set of points of which none are joined, and a colour for each point."""
+    if not is_graph(g):
+        return refusal(NO_GRAPH)
+    order = going_order(g)
+    if len(order) < len(g):
+        return refusal(NOT_ALL_GO)
+    clique = largest_clique(greatest_cliques(g, order))
+    return answer(len(points_of(clique)), [clique, unjoined_set(g, order)], colours_along(g, order))
+
+
+def pf_spans(g):
+    """A span on a line for each point, or three points for which there can be none."""
+    if not is_graph(g):
+        return refusal(NO_GRAPH)
+    order = going_order(g)
+    if len(order) < len(g):
+        return answer(2, [], [])
+    cliques = greatest_cliques(g, order)
+    holders = [places_with(cliques, u) for u in range(len(g))]
+    line = first_line(holders, len(cliques))
+    if line == []:
+        return answer(3, first_three_apart(g), [])
+    return answer(1, spans_on(line, holders), [])
+
+
 def answer(number, row, second_row):
     return [number, len(row)] + row + [len(second_row)] + second_row
 
@@ -201,3 +227,142 @@ def pairs_by_common(cliques):
             common = len(points_of(cliques[i] & cliques[j]))
             ranked.append((-common, i, j))
     return [[rank[1], rank[2]] for rank in sorted(ranked)]
+
+
+def largest_clique(cliques):
+    """Of the largest cliques the least mask; the masks rise."""
+    sizes = [len(points_of(clique)) for clique in cliques]
+    return cliques[sizes.index(max(sizes))]
+
+
+def unjoined_set(g, order):
+    """Along the order each point that's joined to none of the set so far."""
+    unjoined = 0
+    for u in order:
+        if (g[u] & unjoined) == 0:
+            unjoined = unjoined | (1 << u)
+    return unjoined
+
+
+def colours_along(g, order):
+    """For each point its colour; they are given from the order's end on."""
+    colours = [0 for u in order]
+    coloured = 0
+    for u in reversed(order):
+        colours[u] = least_besides([colours[v] for v in points_of(g[u] & coloured)])
+        coloured = coloured | (1 << u)
+    return colours
+
+
+def least_besides(taken):
+    number = 0
+    while number in taken:
+        number = number + 1
+    return number
+
+
+def places_with(cliques, u):
+    """The places of the cliques that have u, as a mask."""
+    places = 0
+    for k in range(len(cliques)):
+        if has_point(cliques[k], u):
+            places = places | (1 << k)
+    return places
+
+
+def first_line(holders, count):
+    """The first order of the places in which those of each holder stand one behind another; empty if there is none."""
+    # A holder is the mask of the places of one point's cliques.
+    # Groups of places stand in the order that is certain by now; the first k of them have one place each.
+    groups = [(1 << count) - 1]
+    for k in range(count):
+        groups = with_first_chosen(groups, k, holders)
+        if groups == []:
+            return []
+    return [least_point(group) for group in groups]
+
+
+def with_first_chosen(groups, k, holders):
+    """The groups once the least place that can be the first of group k stands there; empty if none can."""
+    # Where the groups can be parted so, each holder has whole groups or lies within one. So what is chosen in one group
+    # is nothing to the others, and a place that passes here fails only where every place would.
+    for place in points_of(groups[k]):
+        chosen = [1 << place, without(groups[k], 1 << place)]
+        parted = parted_by_all(not_empty(groups[:k] + chosen + groups[k + 1:]), holders)
+        if parted != []:
+            return parted
+    return []
+
+
+def parted_by_all(groups, holders):
+    """The groups, parted until no holder parts them more; empty if some holder can't stand together."""
+    parted = groups
+    before = 0
+    while len(parted) > before:
+        before = len(parted)
+        for holder in holders:
+            parted = parted_by(parted, holder)
+            if parted == []:
+                return []
+    return parted
+
+
+def parted_by(groups, holder):
+    """The groups, parted at both ends of a holder that reaches over several; empty if it can't stand together."""
+    reached = [k for k in range(len(groups)) if (groups[k] & holder) != 0]
+    first = reached[0]
+    last = reached[-1]
+    if first == last:
+        return groups
+    for group in groups[first + 1:last]:
+        if without(group, holder) != 0:
+            return []
+    head = groups[:first] + [without(groups[first], holder), groups[first] & holder]
+    tail = [groups[last] & holder, without(groups[last], holder)] + groups[last + 1:]
+    return not_empty(head + groups[first + 1:last] + tail)
+
+
+def not_empty(masks):
+    return [mask for mask in masks if mask != 0]
+
+
+def spans_on(line, holders):
+    """For each holder the first and the last place on the line that it has."""
+    spans = []
+    for holder in holders:
+        stands = [k for k in range(len(line)) if has_point(holder, line[k])]
+        spans.extend([stands[0], stands[-1]])
+    return spans
+
+
+def first_three_apart(g):
+    """The first three points of which any two have a way off the third and its neighbours; empty if there are none."""
+    parts = [parts_off(g, u) for u in range(len(g))]
+    for a in range(len(g)):
+        for b in range(a + 1, len(g)):
+            for c in points_of(parts[a][b] & parts[b][a]):
+                if b < c and has_point(parts[c][a], b):
+                    return [a, b, c]
+    return []
+
+
+def parts_off(g, u):
+    """For each point the part that it's in once u and its neighbours are away; these have an empty one."""
+    parts = [0 for v in range(len(g))]
+    left = without(all_points(g), g[u] | (1 << u))
+    while left != 0:
+        part = part_around(g, left & -left, left)
+        for v in points_of(part):
+            parts[v] = part
+        left = without(left, part)
+    return parts
+
+
+def part_around(g, start, inside):
+    """The points that ways inside lead to from the start."""
+    part = 0
+    grown = start
+    while grown != part:
+        part = grown
+        grown = part | (joined_to_some(g, part) & inside)
+    return part

@@ -51,6 +51,24 @@ def grown_graph(n, width, seed):
     return graph(n, ways)
 
 
+def spans_graph(spans, seed):
+    """The graph of which those are joined whose spans have a common place. Its points are shuffled."""
+    return shuffled(graph(len(spans), [(u, v) for u, v in combinations(range(len(spans)), 2)
+                                       if spans[u][0] <= spans[v][1] and spans[v][0] <= spans[u][1]]), seed)
+
+
+def thrown_spans(n, places, longest, seed):
+    thrown = numbers(seed)
+    starts = [next(thrown) % places for _ in range(n)]
+    return [(start, start + next(thrown) % longest) for start in starts]
+
+
+def shuffled(g, seed):
+    thrown = numbers(seed)
+    names = sorted(range(len(g)), key=lambda u: next(thrown))
+    return graph(len(g), [(names[u], names[v]) for u, v in combinations(range(len(g)), 2) if g[u] >> v & 1])
+
+
 def neighbours(g):
     return [{v for v in range(len(g)) if g[u] >> v & 1} for u in range(len(g))]
 
@@ -138,7 +156,10 @@ def searched_cliques(g):
     def grow(clique, may, done):
         if not may and not done:
             found.append(mask_of(clique))
-        for u in sorted(may):
+            return
+        # a greatest clique has a point that the pivot is not joined to, be it the pivot itself
+        pivot = max(may | done, key=lambda u: len(near[u] & may))
+        for u in sorted(may - near[pivot]):
             grow(clique | {u}, may & near[u], done & near[u])
             may = may - {u}
             done = done | {u}
@@ -184,3 +205,125 @@ def slow_pf_cliques(g, greatest=slow_cliques):
         return [-3, 0, 0]
     cliques = greatest(g)
     return told(len(cliques), cliques, slow_ways(cliques))
+
+
+def slow_largest(cliques):
+    size = max(bin(clique).count("1") for clique in cliques)
+    return size, min(clique for clique in cliques if bin(clique).count("1") == size)
+
+
+def slow_unjoined(g, order):
+    near = neighbours(g)
+    chosen = []
+    for u in order:
+        if not near[u] & set(chosen):
+            chosen.append(u)
+    return mask_of(chosen)
+
+
+def slow_colours(g, order):
+    near = neighbours(g)
+    colours = {}
+    for u in order[::-1]:
+        taken = {colours[v] for v in near[u] if v in colours}
+        colours[u] = min(set(range(len(g))) - taken)
+    return [colours[u] for u in range(len(g))]
+
+
+def stands_together(row, clique_sets, u):
+    having = [k for k, place in enumerate(row) if u in clique_sets[place]]
+    return having == list(range(having[0], having[0] + len(having)))
+
+
+def slow_line(g, cliques):
+    """The first order of the cliques' places in which each point's stand together, out of all; None if none does."""
+    clique_sets = [{u for u in range(len(g)) if clique >> u & 1} for clique in cliques]
+    for row in permutations(range(len(cliques))):
+        if all(stands_together(row, clique_sets, u) for u in range(len(g))):
+            return list(row)
+    return None
+
+
+def has_way_off(near, a, b, c):
+    """Whether a way leads from a to b of which no point is c or joined to c."""
+    off = near[c] | {c}
+    reached = {a} - off
+    while True:
+        more = {v for u in reached for v in near[u]} - off - reached
+        if not more:
+            return b in reached - off
+        reached |= more
+
+
+def slow_three(near):
+    """The first three points as in 4.; None if there are none."""
+    for a, b, c in combinations(sorted(near), 3):
+        if b not in near[a] and c not in near[a] and c not in near[b]:
+            if has_way_off(near, a, b, c) and has_way_off(near, a, c, b) and has_way_off(near, b, c, a):
+                return [a, b, c]
+    return None
+
+
+def near_by_point(g):
+    return dict(enumerate(neighbours(g)))
+
+
+def searched_line(g, cliques):
+    """As slow_line, for greater graphs, place by place: a graph of which all points go, and that has no three as in 4.,
+    has such an order. So a row of places can go on if there are no such three in the graph of what is to come, with a
+    tail put to it that has to stand ahead of that."""
+    clique_sets = [frozenset(u for u in range(len(g)) if clique >> u & 1) for clique in cliques]
+    if slow_three(near_by_point(g)) is not None:
+        return None
+    row = []
+    while len(row) < len(cliques):
+        row.append(next(place for place in range(len(cliques)) if place not in row
+                        and can_go_on(clique_sets, row + [place])))
+    return row
+
+
+def can_go_on(clique_sets, row):
+    to_come = [clique for place, clique in enumerate(clique_sets) if place not in row]
+    if not to_come:
+        return True
+    coming = frozenset().union(*to_come)
+    going_on = frozenset().union(*[clique_sets[place] for place in row]) & coming
+    if not going_on <= clique_sets[row[-1]] or not any(going_on <= clique for clique in to_come):
+        return False
+    # 97 is in all that is to come, and in the tail's last part; the tail's first part, 98 and 99, stands outside of it
+    tail = [frozenset({98, 99}), going_on | {97, 98}]
+    return slow_three(near_in([clique | {97} for clique in to_come] + tail)) is None
+
+
+def near_in(clique_sets):
+    near = {}
+    for clique in clique_sets:
+        for u in clique:
+            near.setdefault(u, set()).update(clique - {u})
+    return near
+
+
+def slow_pf_greatest(g, greatest=slow_cliques):
+    if not slow_is_graph(g):
+        return [-2, 0, 0]
+    order = slow_order(g)
+    if len(order) < len(g):
+        return [-3, 0, 0]
+    size, mask = slow_largest(greatest(g))
+    return told(size, [mask, slow_unjoined(g, order)], slow_colours(g, order))
+
+
+def slow_pf_spans(g, greatest=slow_cliques, line=slow_line):
+    if not slow_is_graph(g):
+        return [-2, 0, 0]
+    if len(slow_order(g)) < len(g):
+        return [2, 0, 0]
+    cliques = greatest(g)
+    row = line(g, cliques)
+    if row is None:
+        return told(3, slow_three(near_by_point(g)), [])
+    spans = []
+    for u in range(len(g)):
+        having = [k for k, place in enumerate(row) if cliques[place] >> u & 1]
+        spans += [min(having), max(having)]
+    return told(1, spans, [])

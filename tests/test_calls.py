@@ -5,13 +5,15 @@ import itertools
 import unittest
 
 from plaingraphs import graphs
-from samples import full, graph, grown_graph, ring, slow_pf_cliques, slow_pf_order, thrown_graph
+from samples import (full, graph, grown_graph, ring, slow_pf_cliques, slow_pf_greatest, slow_pf_order, slow_pf_spans,
+                     spans_graph, thrown_graph, thrown_spans)
 
-CALLS = (graphs.pf_order, graphs.pf_cliques)
+CALLS = (graphs.pf_order, graphs.pf_cliques, graphs.pf_greatest, graphs.pf_spans)
 REFUSED = [-2, 0, 0]
 SOME = (
     [], [0], [1], [2, 0], [0, 0], full(4), full(32), graph(4, ring([0, 1, 2, 3])),
     graph(5, [(0, 1)] + ring([1, 2, 3, 4])), graph(7, [(0, 1), (0, 2), (1, 3), (1, 4), (2, 5), (2, 6)]),
+    graph(6, ring([0, 1, 2]) + [(0, 3), (1, 4), (2, 5)]), spans_graph(thrown_spans(32, 20, 5, 5), 5),
     grown_graph(32, 4, 5), thrown_graph(32, 30, 5), graph(32, ring(list(range(32)))),
 )
 
@@ -62,7 +64,8 @@ class NoGraph(unittest.TestCase):
         self.refused([6, 5, 1])
         self.refused([2, 4, 1])
         for u, v in itertools.permutations(range(32), 2):
-            self.assertEqual(graphs.pf_order([1 << v if w == u else 0 for w in range(32)]), REFUSED)
+            for call in CALLS:
+                self.assertEqual(call([1 << v if w == u else 0 for w in range(32)]), REFUSED)
         g = full(32)
         g[31] = g[31] - 1
         self.refused(g)
@@ -78,6 +81,8 @@ class NoGraph(unittest.TestCase):
                 g = list(masks)
                 self.assertEqual(graphs.pf_order(g), slow_pf_order(g), g)
                 self.assertEqual(graphs.pf_cliques(g), slow_pf_cliques(g), g)
+                self.assertEqual(graphs.pf_greatest(g), slow_pf_greatest(g), g)
+                self.assertEqual(graphs.pf_spans(g), slow_pf_spans(g), g)
 
     def test_32_points_are_not_too_many(self):
         for call in CALLS:
