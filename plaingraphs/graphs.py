@@ -3,8 +3,9 @@
 A graph is a list of masks: bit v of g[u] says that the points u and v are joined.
 A set of points is a mask, too; a row of points is a list.
 """
+from plaingraphs.points import (all_points, by_most, first_way, graph_of_others, has_point, is_clique, is_graph,
+                                joined_to_all, least_point, least_way, parts_off, places_with, points_of, without)
 
-MOST_POINTS = 32
 NO_GRAPH = -2
 NOT_ALL_GO = -3
 
@@ -57,60 +58,37 @@ def pf_spans(g):
     return answer(1, spans_on(line, holders), [])
 
 
+def pf_turns(g):
+    """Where each point is turned to, and its height; or the two points with which a round began that fails."""
+    if not is_graph(g):
+        return refusal(NO_GRAPH)
+    turns = turned_by_rounds(g)
+    failed = least_way(ways_not_turned(g, turns))
+    if failed != []:
+        return answer(0, failed, [])
+    return answer(1, turns, heights_by(turns))
+
+
+def pf_rows(g):
+    """Two rows of the points in which just those that are joined change their order; or why there are none."""
+    if not is_graph(g):
+        return refusal(NO_GRAPH)
+    turns = turned_by_rounds(g)
+    if least_way(ways_not_turned(g, turns)) != []:
+        return answer(0, [], [])
+    others = graph_of_others(g)
+    other_turns = turned_by_rounds(others)
+    if least_way(ways_not_turned(others, other_turns)) != []:
+        return answer(2, [], [])
+    return answer(1, two_rows(g, turns, other_turns), [])
+
+
 def answer(number, row, second_row):
     return [number, len(row)] + row + [len(second_row)] + second_row
 
 
 def refusal(number):
     return answer(number, [], [])
-
-
-def is_graph(g):
-    n = len(g)
-    if n < 1 or n > MOST_POINTS:
-        return False
-    for u in range(n):
-        if (g[u] >> n) != 0 or has_point(g[u], u):
-            return False
-        for v in range(u):
-            if has_point(g[u], v) != has_point(g[v], u):
-                return False
-    return True
-
-
-def has_point(mask, u):
-    return ((mask >> u) & 1) == 1
-
-
-def all_points(g):
-    return (1 << len(g)) - 1
-
-
-def without(mask, taken):
-    return mask & ~taken
-
-
-def least_point(mask):
-    """The least point of a set that is not empty."""
-    return (mask & -mask).bit_length() - 1
-
-
-def points_of(mask):
-    """The points of a set, rising."""
-    points = []
-    left = mask
-    while left != 0:
-        u = least_point(left)
-        points.append(u)
-        left = without(left, 1 << u)
-    return points
-
-
-def is_clique(g, mask):
-    for u in points_of(mask):
-        if without(mask, g[u]) != (1 << u):
-            return False
-    return True
 
 
 def going_order(g):
@@ -153,44 +131,6 @@ def circles_from(g, u):
                 if way != []:
                     circles.append([u] + way)
     return circles
-
-
-def first_way(g, a, b, inner):
-    """The first in order of the shortest ways through inner between two that aren't joined; empty if there is none."""
-    layers = layers_between(g, a, b, inner)
-    if layers == []:
-        return []
-    way = [a]
-    for layer in reversed(layers):
-        way.append(least_point(g[way[-1]] & layer))
-    return way
-
-
-def layers_between(g, a, b, inner):
-    """The points of inner by how far they are from b, from b itself up to the first that a is joined to."""
-    layers = [1 << b]
-    left = inner
-    while (layers[-1] & g[a]) == 0:
-        layer = joined_to_some(g, layers[-1]) & left
-        if layer == 0:
-            return []
-        left = without(left, layer)
-        layers.append(layer)
-    return layers
-
-
-def joined_to_some(g, mask):
-    joined = 0
-    for u in points_of(mask):
-        joined = joined | g[u]
-    return joined
-
-
-def joined_to_all(g, mask):
-    joined = all_points(g)
-    for u in points_of(mask):
-        joined = joined & g[u]
-    return joined
 
 
 def greatest_cliques(g, order):
@@ -259,15 +199,6 @@ def least_besides(taken):
     while number in taken:
         number = number + 1
     return number
-
-
-def places_with(cliques, u):
-    """The places of the cliques that have u, as a mask."""
-    places = 0
-    for k in range(len(cliques)):
-        if has_point(cliques[k], u):
-            places = places | (1 << k)
-    return places
 
 
 def first_line(holders, count):
@@ -346,23 +277,55 @@ def first_three_apart(g):
     return []
 
 
-def parts_off(g, u):
-    """For each point the part that it's in once u and its neighbours are away; these have an empty one."""
-    parts = [0 for v in range(len(g))]
-    left = without(all_points(g), g[u] | (1 << u))
-    while left != 0:
-        part = part_around(g, left & -left, left)
-        for v in points_of(part):
-            parts[v] = part
-        left = without(left, part)
-    return parts
+def turned_by_rounds(g):
+    """For each point the mask of those to which it's turned, by all the rounds ahead of one that fails."""
+    turns = [0 for u in range(len(g))]
+    left = ways_not_turned(g, turns)
+    while least_way(left) != []:
+        turned = turned_with(left, least_way(left))
+        if some_both_ways(turned):
+            return turns
+        turns = [turns[u] | turned[u] for u in range(len(g))]
+        left = ways_not_turned(g, turns)
+    return turns
 
 
-def part_around(g, start, inside):
-    """The points that ways inside lead to from the start."""
-    part = 0
-    grown = start
-    while grown != part:
-        part = grown
-        grown = part | (joined_to_some(g, part) & inside)
-    return part
+def ways_not_turned(g, turns):
+    """The graph of the ways that are turned in neither direction."""
+    return [without(g[u], turns[u] | places_with(turns, u)) for u in range(len(g))]
+
+
+def turned_with(left, way):
+    """For each point the mask of those to which it's turned once the way is, by all that must be in this round."""
+    turned = [0 for u in range(len(left))]
+    waiting = [way]
+    while waiting != []:
+        pair = waiting.pop()
+        a = pair[0]
+        b = pair[1]
+        if not has_point(turned[a], b):
+            turned[a] = turned[a] | (1 << b)
+            waiting.extend([[a, c] for c in points_of(without(left[a], left[b]))])
+            waiting.extend([[c, b] for c in points_of(without(left[b], left[a]))])
+    return turned
+
+
+def some_both_ways(turned):
+    return any([(turned[u] & places_with(turned, u)) != 0 for u in range(len(turned))])
+
+
+def heights_by(turns):
+    """For each point 1 more than the greatest height of those to which it's turned."""
+    # Where u is turned to v, it's turned to all to which v is, too: so v has fewer, and its height is known by then.
+    heights = [1 for u in range(len(turns))]
+    for u in reversed(by_most(turns)):
+        heights[u] = 1 + max([heights[v] for v in points_of(turns[u])], default=0)
+    return heights
+
+
+def two_rows(g, turns, other_turns):
+    """The points by both turns, then by the other's and those of g turned round, one row behind the other."""
+    # In each row one of any two stands first, and they never go round in a ring: so it's by how many stand behind.
+    behind = [turns[u] | other_turns[u] for u in range(len(g))]
+    behind_then = [without(g[u], turns[u]) | other_turns[u] for u in range(len(g))]
+    return by_most(behind) + by_most(behind_then)

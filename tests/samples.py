@@ -69,6 +69,21 @@ def shuffled(g, seed):
     return graph(len(g), [(names[u], names[v]) for u, v in combinations(range(len(g)), 2) if g[u] >> v & 1])
 
 
+def thrown_row(n, seed):
+    thrown = numbers(seed)
+    return sorted(range(n), key=lambda u: next(thrown))
+
+
+def graph_of_rows(rows):
+    """The graph in which two points are joined if the same one stands first in all the rows."""
+    n = len(rows[0])
+    return graph(n, [(u, v) for u, v in permutations(range(n), 2) if all(row.index(u) < row.index(v) for row in rows)])
+
+
+def others_of(g):
+    return graph(len(g), [(u, v) for u, v in combinations(range(len(g)), 2) if not g[u] >> v & 1])
+
+
 def neighbours(g):
     return [{v for v in range(len(g)) if g[u] >> v & 1} for u in range(len(g))]
 
@@ -327,3 +342,79 @@ def slow_pf_spans(g, greatest=slow_cliques, line=slow_line):
         having = [k for k, place in enumerate(row) if cliques[place] >> u & 1]
         spans += [min(having), max(having)]
     return told(1, spans, [])
+
+
+def slow_round(free, start):
+    """All turns that the start brings with it, as pairs; free: the pairs, both ways, that weren't turned before."""
+    points = sorted({u for pair in free for u in pair})
+    turned = set()
+    newest = {start}
+    while newest:
+        turned |= newest
+        found = set()
+        for a, b in newest:
+            for c in points:
+                if (a, c) in free and (b, c) not in free:
+                    found.add((a, c))
+                if (c, b) in free and (a, c) not in free:
+                    found.add((c, b))
+        newest = found - turned
+    return turned
+
+
+def slow_turns(g):
+    """All turns as pairs, and None; or those up to there, and the two points with which a round began that fails."""
+    free = {(u, v) for u, near in enumerate(neighbours(g)) for v in near}
+    turns = set()
+    while free:
+        start = min(free)
+        turned = slow_round(free, start)
+        turned_back = {(v, u) for u, v in turned}
+        if turned & turned_back:
+            return turns, start
+        turns |= turned
+        free -= turned | turned_back
+    return turns, None
+
+
+def slow_heights(n, turns):
+    """Heights are set anew until each is 1 more than the greatest of those to which its point is turned."""
+    heights = [1] * n
+    while True:
+        again = [1 + max((heights[v] for w, v in turns if w == u), default=0) for u in range(n)]
+        if again == heights:
+            return heights
+        heights = again
+
+
+def slow_pf_turns(g):
+    if not slow_is_graph(g):
+        return [-2, 0, 0]
+    turns, failed = slow_turns(g)
+    if failed:
+        return told(0, failed, [])
+    masks = [mask_of(v for w, v in turns if w == u) for u in range(len(g))]
+    return told(1, masks, slow_heights(len(g), turns))
+
+
+def slow_row(n, before):
+    """The points so that u stands before v for each pair of before: always the one that has to stand behind none."""
+    row = []
+    while len(row) < n:
+        first = [v for v in range(n) if v not in row and not any((u, v) in before for u in range(n) if u not in row)]
+        assert len(first) == 1, first
+        row += first
+    return row
+
+
+def slow_pf_rows(g):
+    if not slow_is_graph(g):
+        return [-2, 0, 0]
+    turns, failed = slow_turns(g)
+    if failed:
+        return [0, 0, 0]
+    other_turns, failed = slow_turns(others_of(g))
+    if failed:
+        return [2, 0, 0]
+    turned_back = {(v, u) for u, v in turns}
+    return told(1, slow_row(len(g), turns | other_turns) + slow_row(len(g), turned_back | other_turns), [])

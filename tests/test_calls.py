@@ -5,16 +5,19 @@ import itertools
 import unittest
 
 from plaingraphs import graphs
-from samples import (full, graph, grown_graph, ring, slow_pf_cliques, slow_pf_greatest, slow_pf_order, slow_pf_spans,
-                     spans_graph, thrown_graph, thrown_spans)
+from samples import (full, graph, graph_of_rows, grown_graph, others_of, ring, slow_pf_cliques, slow_pf_greatest,
+                     slow_pf_order, slow_pf_rows, slow_pf_spans, slow_pf_turns, spans_graph, thrown_graph, thrown_row,
+                     thrown_spans)
 
-CALLS = (graphs.pf_order, graphs.pf_cliques, graphs.pf_greatest, graphs.pf_spans)
+CALLS = (graphs.pf_order, graphs.pf_cliques, graphs.pf_greatest, graphs.pf_spans, graphs.pf_turns, graphs.pf_rows)
 REFUSED = [-2, 0, 0]
 SOME = (
     [], [0], [1], [2, 0], [0, 0], full(4), full(32), graph(4, ring([0, 1, 2, 3])),
     graph(5, [(0, 1)] + ring([1, 2, 3, 4])), graph(7, [(0, 1), (0, 2), (1, 3), (1, 4), (2, 5), (2, 6)]),
     graph(6, ring([0, 1, 2]) + [(0, 3), (1, 4), (2, 5)]), spans_graph(thrown_spans(32, 20, 5, 5), 5),
     grown_graph(32, 4, 5), thrown_graph(32, 30, 5), graph(32, ring(list(range(32)))),
+    graph(7, [(0, 1)] + ring([2, 3, 4, 5, 6])), others_of(graph(6, ring(list(range(6))))),
+    graph_of_rows([thrown_row(32, 5), thrown_row(32, 6)]),
 )
 
 
@@ -83,6 +86,8 @@ class NoGraph(unittest.TestCase):
                 self.assertEqual(graphs.pf_cliques(g), slow_pf_cliques(g), g)
                 self.assertEqual(graphs.pf_greatest(g), slow_pf_greatest(g), g)
                 self.assertEqual(graphs.pf_spans(g), slow_pf_spans(g), g)
+                self.assertEqual(graphs.pf_turns(g), slow_pf_turns(g), g)
+                self.assertEqual(graphs.pf_rows(g), slow_pf_rows(g), g)
 
     def test_32_points_are_not_too_many(self):
         for call in CALLS:

@@ -3,6 +3,8 @@ import ast
 import builtins
 import pathlib
 import re
+import subprocess
+import sys
 import unittest
 
 PACKAGE = pathlib.Path(__file__).resolve().parent.parent / "plaingraphs"
@@ -35,9 +37,13 @@ def names_given(tree):
             yield node.id
 
 
+def names_imported(tree):
+    return [name.name for node in ast.walk(tree) if isinstance(node, ast.ImportFrom) for name in node.names]
+
+
 class Files(unittest.TestCase):
     def test_what_lies_in_the_package(self):
-        self.assertEqual([path.name for path in FILES], ["__init__.py", "graphs.py"])
+        self.assertEqual([path.name for path in FILES], ["__init__.py", "graphs.py", "points.py"])
 
     def test_signs_and_sizes(self):
         for path in FILES:
@@ -55,26 +61,49 @@ class Files(unittest.TestCase):
 
 
 class Code(unittest.TestCase):
-    def test_nothing_is_imported(self):
+    def test_nothing_is_imported_but_own_names(self):
+        defined = [node.name for node in ast.parse((PACKAGE / "points.py").read_text()).body
+                   if isinstance(node, ast.FunctionDef)]
         for path, tree in trees():
             for node in ast.walk(tree):
-                self.assertNotIsInstance(node, (ast.Import, ast.ImportFrom), path)
+                self.assertNotIsInstance(node, ast.Import, path)
+                if isinstance(node, ast.ImportFrom):
+                    self.assertEqual((path.name, node.module, node.level), ("graphs.py", "plaingraphs.points", 0))
+                    self.assertIn(node, tree.body)
+                    for name in node.names:
+                        self.assertIn(name.name, defined)
+                        self.assertIsNone(name.asname)
+
+    def test_what_is_imported_is_used_and_keeps_its_meaning(self):
+        for path, tree in trees():
+            used = [node.id for node in ast.walk(tree) if isinstance(node, ast.Name)]
+            for name in names_imported(tree):
+                self.assertIn(name, used)
+                self.assertNotIn(name, list(names_given(tree)))
+
+    def test_no_module_but_its_own_is_loaded(self):
+        code = ("import sys; before = set(sys.modules); import plaingraphs.graphs; "
+                "print(*sorted(set(sys.modules) - before))")
+        ran = subprocess.run([sys.executable, "-B", "-c", code], cwd=PACKAGE.parent, capture_output=True, text=True)
+        self.assertEqual(ran.stderr, "")
+        self.assertEqual(ran.stdout.split(), ["plaingraphs", "plaingraphs.graphs", "plaingraphs.points"])
 
     def test_top_of_a_file(self):
         for path, tree in trees():
             self.assertIsNotNone(ast.get_docstring(tree), path)
-            for node in tree.body[1:]:
+            body = [node for node in tree.body[1:] if not isinstance(node, ast.ImportFrom)]
+            for node in body:
                 self.assertIsInstance(node, (ast.FunctionDef, ast.Assign), path)
                 if isinstance(node, ast.Assign):
                     ast.literal_eval(node.value)
-            given = [node.name if isinstance(node, ast.FunctionDef) else node.targets[0].id for node in tree.body[1:]]
+            given = [node.name if isinstance(node, ast.FunctionDef) else node.targets[0].id for node in body]
             self.assertEqual(len(given), len(set(given)), path)
 
     def test_statements_and_expressions(self):
         for path, tree in trees():
             for node in ast.walk(tree):
                 where = (path.name, getattr(node, "lineno", 0), ast.dump(node))
-                if isinstance(node, ast.stmt):
+                if isinstance(node, ast.stmt) and not isinstance(node, ast.ImportFrom):
                     self.assertIsInstance(node, STATEMENTS, where)
                 if isinstance(node, ast.expr):
                     self.assertIsInstance(node, EXPRESSIONS, where)
@@ -101,7 +130,7 @@ class Code(unittest.TestCase):
 
     def test_names(self):
         for path, tree in trees():
-            given = set(names_given(tree))
+            given = set(names_given(tree)) | set(names_imported(tree))
             for name in given:
                 self.assertNotIn(name, dir(builtins), path)
                 self.assertRegex(name, "^[A-Za-z][A-Za-z0-9_]*$", path)
