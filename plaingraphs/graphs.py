@@ -3,11 +3,18 @@
 A graph is a list of masks: bit v of g[u] says that the points u and v are joined.
 A set of points is a mask, too; a row of points is a list.
 """
-from plaingraphs.points import (all_points, by_most, first_way, graph_of_others, has_point, is_clique, is_graph,
-                                joined_to_all, least_point, least_way, parts_off, places_with, points_of, without)
+from plaingraphs.points import (all_points, by_most, first_circle, graph_of_others, has_point, is_clique, is_graph,
+                                joined_to_all, joined_to_some, least_point, least_way, mask_of, parts_off, places_with,
+                                points_of, without)
 
 NO_GRAPH = -2
 NOT_ALL_GO = -3
+WAS_JOINED_TO_ALL = 128
+# Four points can be paired in three manners: how many of both pairs are joined, the fewest first. These are the kinds
+# with a manner in which both are joined and one in which neither is: a with b, c with d, and a with c, b with d.
+TWO_APART = (0, 0, 2)
+ROW_OF_FOUR = (0, 1, 2)
+RING_OF_FOUR = (0, 2, 2)
 
 
 def pf_order(g):
@@ -83,6 +90,31 @@ def pf_rows(g):
     return answer(1, two_rows(g, turns, other_turns), [])
 
 
+def pf_parts(g):
+    """A clique, where of the points beside it none are joined; or four or five points that can't be parted so."""
+    if not is_graph(g):
+        return refusal(NO_GRAPH)
+    part = part_with_most(g)
+    others = without(all_points(g), part)
+    if is_clique(g, part) and (joined_to_some(g, others) & others) == 0:
+        return answer(1, [part], [])
+    four = first_four(g, (TWO_APART, RING_OF_FOUR))
+    if four != []:
+        return answer(0, [mask_of(four)], [])
+    # Without such four, each point beside a circle of five is joined to all of it or to none: so there's just one.
+    return answer(0, [mask_of(first_circle(g))], [])
+
+
+def pf_steps(g):
+    """Each point as it goes, by none or all of the others; or four points of which none can go."""
+    if not is_graph(g):
+        return refusal(NO_GRAPH)
+    steps = going_steps(g)
+    if len(steps) == len(g):
+        return answer(1, steps, [])
+    return answer(0, first_four(g, (TWO_APART, ROW_OF_FOUR, RING_OF_FOUR)), [])
+
+
 def answer(number, row, second_row):
     return [number, len(row)] + row + [len(second_row)] + second_row
 
@@ -105,32 +137,6 @@ def going_order(g):
 
 def points_that_can_go(g, left):
     return [u for u in points_of(left) if is_clique(g, g[u] & left)]
-
-
-def first_circle(g):
-    """The shortest circle, of several the first in order; g has one."""
-    circles = []
-    for u in range(len(g)):
-        circles.extend(circles_from(g, u))
-    shortest = min([len(circle) for circle in circles])
-    return min([circle for circle in circles if len(circle) == shortest])
-
-
-def circles_from(g, u):
-    """For each two neighbours of u, the first of the shortest circles with them beside u, their least point."""
-    # The rest of such a circle is a way between the two that keeps off u and its neighbours.
-    # A shortest one has no short cut, so no two points of the ring are joined but those side by side.
-    above = without(all_points(g), (1 << (u + 1)) - 1)
-    neighbours = g[u] & above
-    others = without(above, g[u])
-    circles = []
-    for a in points_of(neighbours):
-        for b in points_of(without(neighbours, g[a])):
-            if a < b:
-                way = first_way(g, a, b, others)
-                if way != []:
-                    circles.append([u] + way)
-    return circles
 
 
 def greatest_cliques(g, order):
@@ -329,3 +335,48 @@ def two_rows(g, turns, other_turns):
     behind = [turns[u] | other_turns[u] for u in range(len(g))]
     behind_then = [without(g[u], turns[u]) | other_turns[u] for u in range(len(g))]
     return by_most(behind) + by_most(behind_then)
+
+
+def part_with_most(g):
+    """The points by how many are joined to them, up to the last place m whose point has m - 1 or more."""
+    # Along the places the points have ever fewer while m rises: so it's just the points that have enough themselves.
+    order = by_most(g)
+    return mask_of([order[k] for k in range(len(g)) if len(points_of(g[order[k]])) >= k])
+
+
+def first_four(g, kinds):
+    """The first four points, in order, that are of one of the kinds; empty if there are none."""
+    for a in range(len(g)):
+        for b in range(a + 1, len(g)):
+            for c in range(b + 1, len(g)):
+                for d in range(c + 1, len(g)):
+                    if kind_of_four(g, a, b, c, d) in kinds:
+                        return [a, b, c, d]
+    return []
+
+
+def kind_of_four(g, a, b, c, d):
+    return tuple(sorted([joined_pairs(g, a, b, c, d), joined_pairs(g, a, c, b, d), joined_pairs(g, a, d, b, c)]))
+
+
+def joined_pairs(g, a, b, c, d):
+    """How many of the two pairs, a with b and c with d, are joined."""
+    return ((g[a] >> b) & 1) + ((g[c] >> d) & 1)
+
+
+def going_steps(g):
+    """Each point as it goes, marked if it was joined to all and there were others; fewer where some can't go."""
+    steps = []
+    left = all_points(g)
+    going = points_with_none_or_all(g, left)
+    while going != []:
+        u = going[0]
+        steps.append(u if (g[u] & left) == 0 else u + WAS_JOINED_TO_ALL)
+        left = without(left, 1 << u)
+        going = points_with_none_or_all(g, left)
+    return steps
+
+
+def points_with_none_or_all(g, left):
+    """The points left that are joined to none of the others left, or to all."""
+    return [u for u in points_of(left) if (g[u] & left) in (0, without(left, 1 << u))]

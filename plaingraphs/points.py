@@ -1,4 +1,4 @@
-"""Sets of points as masks, and ways between points.
+"""Sets of points as masks, ways between points, and circles.
 
 A graph is a list of masks: bit v of g[u] says that the points u and v are joined.
 """
@@ -45,6 +45,13 @@ def points_of(mask):
         points.append(u)
         left = without(left, 1 << u)
     return points
+
+
+def mask_of(points):
+    mask = 0
+    for u in points:
+        mask = mask | (1 << u)
+    return mask
 
 
 def places_with(masks, u):
@@ -117,6 +124,32 @@ def layers_between(g, a, b, inner):
         left = without(left, layer)
         layers.append(layer)
     return layers
+
+
+def first_circle(g):
+    """The shortest circle, of several the first in order; g has one."""
+    circles = []
+    for u in range(len(g)):
+        circles.extend(circles_from(g, u))
+    shortest = min([len(circle) for circle in circles])
+    return min([circle for circle in circles if len(circle) == shortest])
+
+
+def circles_from(g, u):
+    """For each two neighbours of u, the first of the shortest circles with them beside u, their least point."""
+    # The rest of such a circle is a way between the two that keeps off u and its neighbours.
+    # A shortest one has no short cut, so no two points of the ring are joined but those side by side.
+    above = without(all_points(g), (1 << (u + 1)) - 1)
+    neighbours = g[u] & above
+    others = without(above, g[u])
+    circles = []
+    for a in points_of(neighbours):
+        for b in points_of(without(neighbours, g[a])):
+            if a < b:
+                way = first_way(g, a, b, others)
+                if way != []:
+                    circles.append([u] + way)
+    return circles
 
 
 def parts_off(g, u):

@@ -418,3 +418,82 @@ def slow_pf_rows(g):
         return [2, 0, 0]
     turned_back = {(v, u) for u, v in turns}
     return told(1, slow_row(len(g), turns | other_turns) + slow_row(len(g), turned_back | other_turns), [])
+
+
+def parted_graph(n, size, percent, seed):
+    """A graph of a clique and of points none of which are joined, but to those of the clique. Its points are
+    shuffled."""
+    thrown = numbers(seed)
+    ways = list(combinations(range(size), 2))
+    ways += [(u, v) for u in range(size) for v in range(size, n) if next(thrown) % 100 < percent]
+    return shuffled(graph(n, ways), seed)
+
+
+def stepped_graph(n, percent, seed):
+    """A graph put together point by point, each joined to none or to all so far. Its points are shuffled."""
+    thrown = numbers(seed)
+    return shuffled(graph(n, [(u, v) for u in range(n) if next(thrown) % 100 < percent for v in range(u)]), seed)
+
+
+def ways_among(g, points):
+    return [set(pair) for pair in combinations(points, 2) if g[pair[0]] >> pair[1] & 1]
+
+
+def is_ring(points, ways):
+    """Whether the points can be put in a ring so that just those side by side are joined."""
+    if any(sum(u in way for way in ways) != 2 for u in points):
+        return False
+    return any(sorted(map(sorted, ring(row))) == sorted(map(sorted, ways)) for row in permutations(points))
+
+
+def is_two_or_ring(g, points):
+    """Whether among four points are two ways without a common point, and no more, or two more that make a ring."""
+    ways = ways_among(g, points)
+    for way, other in combinations(ways, 2):
+        if not way & other:
+            more = [w for w in ways if w not in (way, other)]
+            if not more or len(more) == 2 and is_ring(points, ways):
+                return True
+    return False
+
+
+def slow_pf_parts(g):
+    if not slow_is_graph(g):
+        return [-2, 0, 0]
+    near = neighbours(g)
+    by_number = sorted(range(len(g)), key=lambda u: (-len(near[u]), u))
+    m = max(place for place in range(1, len(g) + 1) if len(near[by_number[place - 1]]) >= place - 1)
+    part = by_number[:m]
+    if len(ways_among(g, part)) == m * (m - 1) // 2 and not ways_among(g, by_number[m:]):
+        return told(1, [mask_of(part)], [])
+    for four in combinations(range(len(g)), 4):
+        if is_two_or_ring(g, four):
+            return told(0, [mask_of(four)], [])
+    for five in combinations(range(len(g)), 5):
+        if is_ring(five, ways_among(g, five)):
+            return told(0, [mask_of(five)], [])
+    raise AssertionError(g)
+
+
+def can_be_named(near, four):
+    return any(b in near[a] and d in near[c] and c not in near[a] and d not in near[b]
+               for a, b, c, d in permutations(four))
+
+
+def slow_pf_steps(g):
+    if not slow_is_graph(g):
+        return [-2, 0, 0]
+    near = neighbours(g)
+    left = set(range(len(g)))
+    steps = []
+    while True:
+        none = [u for u in left if not near[u] & left]
+        every = [u for u in left if near[u] >= left - {u}]
+        if not none + every:
+            break
+        u = min(none + every)
+        left -= {u}
+        steps.append(u + 128 if u in every and left else u)
+    if not left:
+        return told(1, steps, [])
+    return told(0, next(four for four in combinations(range(len(g)), 4) if can_be_named(near, four)), [])

@@ -1,15 +1,17 @@
 """What holds for every call: when g is a graph, the refusal -2, the form of an answer, and what is left as it was."""
 import contextlib
+import inspect
 import io
 import itertools
 import unittest
 
 from plaingraphs import graphs
-from samples import (full, graph, graph_of_rows, grown_graph, others_of, ring, slow_pf_cliques, slow_pf_greatest,
-                     slow_pf_order, slow_pf_rows, slow_pf_spans, slow_pf_turns, spans_graph, thrown_graph, thrown_row,
-                     thrown_spans)
+from samples import (full, graph, graph_of_rows, grown_graph, others_of, parted_graph, ring, slow_pf_cliques,
+                     slow_pf_greatest, slow_pf_order, slow_pf_parts, slow_pf_rows, slow_pf_spans, slow_pf_steps,
+                     slow_pf_turns, spans_graph, stepped_graph, thrown_graph, thrown_row, thrown_spans)
 
-CALLS = (graphs.pf_order, graphs.pf_cliques, graphs.pf_greatest, graphs.pf_spans, graphs.pf_turns, graphs.pf_rows)
+CALLS = (graphs.pf_order, graphs.pf_cliques, graphs.pf_greatest, graphs.pf_spans, graphs.pf_turns, graphs.pf_rows,
+         graphs.pf_parts, graphs.pf_steps)
 REFUSED = [-2, 0, 0]
 SOME = (
     [], [0], [1], [2, 0], [0, 0], full(4), full(32), graph(4, ring([0, 1, 2, 3])),
@@ -17,7 +19,8 @@ SOME = (
     graph(6, ring([0, 1, 2]) + [(0, 3), (1, 4), (2, 5)]), spans_graph(thrown_spans(32, 20, 5, 5), 5),
     grown_graph(32, 4, 5), thrown_graph(32, 30, 5), graph(32, ring(list(range(32)))),
     graph(7, [(0, 1)] + ring([2, 3, 4, 5, 6])), others_of(graph(6, ring(list(range(6))))),
-    graph_of_rows([thrown_row(32, 5), thrown_row(32, 6)]),
+    graph_of_rows([thrown_row(32, 5), thrown_row(32, 6)]), graph(5, ring(list(range(5)))),
+    graph(32, ring([27, 28, 29, 30, 31])), parted_graph(32, 12, 50, 5), stepped_graph(32, 50, 5),
 )
 
 
@@ -88,6 +91,8 @@ class NoGraph(unittest.TestCase):
                 self.assertEqual(graphs.pf_spans(g), slow_pf_spans(g), g)
                 self.assertEqual(graphs.pf_turns(g), slow_pf_turns(g), g)
                 self.assertEqual(graphs.pf_rows(g), slow_pf_rows(g), g)
+                self.assertEqual(graphs.pf_parts(g), slow_pf_parts(g), g)
+                self.assertEqual(graphs.pf_steps(g), slow_pf_steps(g), g)
 
     def test_32_points_are_not_too_many(self):
         for call in CALLS:
@@ -95,6 +100,16 @@ class NoGraph(unittest.TestCase):
 
     def test_more_than_32_points(self):
         self.refused([0] * 33)
+
+
+class Interface(unittest.TestCase):
+    def test_names_and_arguments(self):
+        self.assertEqual([call.__name__ for call in CALLS],
+                         ["pf_order", "pf_cliques", "pf_greatest", "pf_spans", "pf_turns", "pf_rows", "pf_parts",
+                          "pf_steps"])
+        for call in CALLS:
+            self.assertEqual(str(inspect.signature(call)), "(g)")
+            self.assertEqual(call(g=[0]), call([0]))
 
 
 class Form(unittest.TestCase):
